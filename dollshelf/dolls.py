@@ -1,0 +1,57 @@
+"""The calls on one collection of dolls, told and answered as whole numbers."""
+
+from dollshelf.collection import Collection
+
+DOLL = 0
+PUT = 1
+OUT = 2
+HOLDS = 3
+SHELF = 4
+WITHIN = 5
+FITS = 6
+
+
+class UnknownCall(ValueError):
+    """There is no call with this number."""
+
+
+def numbers_behind(call):
+    """How many numbers stand behind the number of a call."""
+    if call == DOLL or call == PUT:
+        return 2
+    if call == OUT or call == WITHIN or call == FITS:
+        return 1
+    if call == HOLDS or call == SHELF:
+        return 0
+    raise UnknownCall(f"there is no call {call}")
+
+
+def answer(collection, call, numbers):
+    if call == DOLL:
+        return collection.add_doll(numbers[0], numbers[1])
+    if call == PUT:
+        return collection.put(numbers[0], numbers[1])
+    if call == OUT:
+        return collection.out(numbers[0])
+    if call == HOLDS:
+        return collection.holds()
+    if call == SHELF:
+        return collection.shelf()
+    if call == WITHIN:
+        return collection.within(numbers[0])
+    return collection.fits(numbers[0])
+
+
+def answers(calls):
+    """For each call, in order: how many numbers are answered, then these numbers."""
+    collection = Collection()
+    told = []
+    start = 0
+    while start < len(calls):
+        call = calls[start]
+        end = start + 1 + numbers_behind(call)
+        answered = answer(collection, call, calls[start + 1:end])
+        told.append(len(answered))
+        told.extend(answered)
+        start = end
+    return told
