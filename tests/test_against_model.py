@@ -3,6 +3,7 @@
 import unittest
 
 from dollshelf.dolls import answers
+from helper import Draw, is_nesting, plain_answers, plain_nestings
 
 
 class Model:
@@ -65,56 +66,83 @@ class Model:
         fitting = [small for small, sizes in enumerate(self.sizes) if sizes[0] <= self.sizes[doll][1]]
         return [len(fitting), *fitting]
 
+    def lay(self, count, *nesting):
+        if count != len(self.sizes) or not self.is_nesting(nesting):
+            return [-1]
+        self.content = {place - 1: doll for doll, place in enumerate(nesting) if place > 0}
+        return [len(self.standing())]
+
+    def is_nesting(self, nesting):
+        return max(nesting, default=0) <= len(self.sizes) and is_nesting(self.sizes, nesting)
+
+    def search(self, position):
+        return plain_answers(self.sizes, plain_nestings(self.sizes))[position]
+
 
 CALLS = ("doll", "put", "out", "holds", "shelf", "within", "fits")
 ARGUMENTS = (2, 2, 1, 0, 0, 1, 1)
+FIRST_SEARCH = 7
+LAY = 12
 
 
-class Draw:
-    """Numbers that look drawn but are the same each time."""
-
-    def __init__(self, seed):
-        self.state = seed
-
-    def below(self, bound):
-        self.state = (self.state * 6364136223846793005 + 1442695040888963407) % 2 ** 64
-        return (self.state >> 33) % bound
+def asked_of(model, call, numbers):
+    if call == LAY:
+        return model.lay(*numbers)
+    if call >= FIRST_SEARCH:
+        return model.search(call - FIRST_SEARCH)
+    return getattr(model, CALLS[call])(*numbers)
 
 
-def drawn_calls(seed):
+def drawn_sizes_of_one(draw, greatest_outer):
+    outer = draw.below(greatest_outer)
+    return [outer, draw.below(outer + 2)]
+
+
+def drawn_nesting(draw, dolls):
+    """Mostly of the right length and mostly zeros, so that many of them are nestings."""
+    length = dolls if draw.below(8) else draw.below(21)
+    nesting = [draw.below(dolls + 2) if draw.below(3) == 0 else 0 for _ in range(length)]
+    return [length] + nesting
+
+
+def drawn_line(seed):
+    """Calls, and what the model answers to them; searches are asked of few dolls, for the model's are slow."""
     draw = Draw(seed)
     greatest_outer = (6, 12, 30, 103)[draw.below(4)]
-    calls = []
+    with_searches = draw.below(8) == 0
+    choices = (1, 1, 2, 3, 4, 6, 7, 8, 9, 10, 11, 12) if with_searches else (0, 1, 1, 1, 1, 2, 2, 3, 4, 5, 6, 12, 12)
+    model = Model()
+    line = []
+    searches = 0
     for position in range(1 + draw.below(40)):
-        call = 0 if position < 8 and draw.below(4) else (0, 1, 1, 1, 1, 2, 2, 3, 4, 5, 6)[draw.below(11)]
+        coming = position < (4 if with_searches else 8) and draw.below(4)
+        call = 0 if coming else choices[draw.below(len(choices))]
+        searches += call in (7, 8, 9)
+        if searches > 8:
+            break
         if call == 0:
-            outer = draw.below(greatest_outer)
-            numbers = [outer, draw.below(outer + 2)]
+            numbers = drawn_sizes_of_one(draw, greatest_outer)
+        elif call == LAY:
+            numbers = drawn_nesting(draw, len(model.sizes))
         else:
-            numbers = [draw.below(9) for _ in range(ARGUMENTS[call])]
-        calls.append((call, numbers))
-    return calls
+            numbers = [draw.below(9) for _ in range(ARGUMENTS[call])] if call < FIRST_SEARCH else []
+        line.append((call, numbers, asked_of(model, call, numbers)))
+    return line
 
 
 class AgainstModelTest(unittest.TestCase):
     def test_many_lines(self):
-        refusals = set()
+        seen = set()
         for seed in range(3000):
-            calls = drawn_calls(seed)
-            model = Model()
-            expected = []
-            handed = []
-            for call, numbers in calls:
-                answer = getattr(model, CALLS[call])(*numbers)
-                expected += [len(answer)] + answer
-                handed += [call] + numbers
-                if answer[0] < 0:
-                    refusals.add((CALLS[call], answer[0]))
+            line = drawn_line(seed)
+            handed = [number for call, numbers, _ in line for number in [call] + numbers]
+            expected = [number for _, _, answer in line for number in [len(answer)] + answer]
             self.assertEqual(answers(handed), expected, handed)
-        # The lines are worth comparing only if they reach every refusal.
-        self.assertEqual(refusals, {
-            ("doll", -1), ("doll", -5), ("put", -2), ("put", -1), ("put", -4), ("put", -3), ("put", -6),
-            ("out", -2), ("out", -9), ("within", -2), ("fits", -2)})
+            seen.update((call, min(answer[0], 0)) for call, _, answer in line)
+        # The lines are worth comparing only if they reach every call and every refusal.
+        refusals = {0: (-1, -5), 1: (-2, -1, -4, -3, -6), 2: (-2, -9), 5: (-2,), 6: (-2,), LAY: (-1,)}
+        reached = {(call, refusal) for call, told in refusals.items() for refusal in told}
+        self.assertEqual(seen, reached | {(call, 0) for call in range(13)})
 
 
 if __name__ == "__main__":

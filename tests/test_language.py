@@ -36,6 +36,16 @@ def nodes(kind):
     return [(name, node) for name, tree in parsed() for node in ast.walk(tree) if isinstance(node, kind)]
 
 
+def top_names(tree):
+    """What a file defines at its top: functions, classes and plain values."""
+    own = [node.name for node in tree.body if isinstance(node, (ast.FunctionDef, ast.ClassDef))]
+    return own + [target.id for node in tree.body if isinstance(node, ast.Assign) for target in node.targets]
+
+
+def own_methods():
+    return {node.name for _, kind in nodes(ast.ClassDef) for node in kind.body if isinstance(node, ast.FunctionDef)}
+
+
 class LanguageTest(unittest.TestCase):
     def test_files(self):
         self.assertIn("__init__.py", [path.name for path in files()])
@@ -57,6 +67,9 @@ class LanguageTest(unittest.TestCase):
             self.assertIsInstance(node, STATEMENTS, (name, node.lineno))
         for name, node in nodes(NOT_USED):
             self.fail((name, node))
+        for name, node in nodes(ast.ListComp):
+            self.assertEqual(len(node.generators), 1, (name, node.lineno))
+            self.assertLessEqual(len(node.generators[0].ifs), 1, (name, node.lineno))
         for name, node in nodes((ast.FunctionDef, ast.ClassDef)):
             self.assertEqual(node.decorator_list, [], (name, node.name))
 
@@ -64,6 +77,21 @@ class LanguageTest(unittest.TestCase):
         for name, node in nodes(ast.ImportFrom):
             self.assertEqual(node.level, 0, name)
             self.assertEqual(node.module.split(".")[0], "dollshelf", name)
+
+    def test_names_are_drawn_from_the_file_that_defines_them(self):
+        defined = {name: top_names(tree) for name, tree in parsed()}
+        for name, node in nodes(ast.ImportFrom):
+            for alias in node.names:
+                self.assertIn(alias.name, defined[node.module.split(".")[1] + ".py"], (name, alias.name))
+
+    def test_no_two_files_draw_from_one_another(self):
+        left = {name: [] for name, _ in parsed()}
+        for name, node in nodes(ast.ImportFrom):
+            left[name].append(node.module.split(".")[1] + ".py")
+        while left:
+            free = [name for name in left if not set(left[name]) & set(left)]
+            self.assertNotEqual(free, [], left)
+            left = {name: drawn for name, drawn in left.items() if name not in free}
 
     def test_names(self):
         for name, node in nodes(ast.Name):
@@ -80,6 +108,27 @@ class LanguageTest(unittest.TestCase):
         for name, node in nodes(ast.Call):
             if isinstance(node.func, ast.Attribute):
                 self.assertIn(node.func.attr, METHODS | own, (name, node.lineno))
+
+    def test_no_name_is_a_method_and_a_value(self):
+        values = {node.attr for _, node in nodes(ast.Attribute) if isinstance(node.ctx, ast.Store)}
+        self.assertEqual(own_methods() & values, set())
+
+    def test_methods_are_called_where_they_stand(self):
+        for name, tree in parsed():
+            called = [node.func for node in ast.walk(tree) if isinstance(node, ast.Call)]
+            for node in ast.walk(tree):
+                if isinstance(node, ast.Attribute) and node.attr in own_methods() | METHODS:
+                    self.assertIn(node, called, (name, node.lineno))
+
+    def test_locals_are_not_called_like_what_is_drawn_or_built_in(self):
+        for name, tree in parsed():
+            drawn = {alias.name for node in tree.body if isinstance(node, ast.ImportFrom) for alias in node.names}
+            kinds = {node.name for node in tree.body if isinstance(node, ast.ClassDef)}
+            for node in ast.walk(tree):
+                if isinstance(node, ast.Name) and isinstance(node.ctx, ast.Store):
+                    self.assertNotIn(node.id, drawn | kinds | set(dir(builtins)), (name, node.lineno))
+                if isinstance(node, ast.arg):
+                    self.assertNotIn(node.arg, drawn | kinds, (name, node.lineno))
 
     def test_nothing_is_kept_at_the_top_of_a_file(self):
         for name, tree in parsed():
